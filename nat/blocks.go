@@ -143,12 +143,3 @@ func guess(x, y []uint64) uint64 {
 	q, _ := bits.Div64(high+carry, low, y[len(y)-1]*base+block(y, len(y)-2))
 	return q
 }
-
-// divisor returns the greatest common divisor. It uses the memory of x and y up.
-func divisor(x, y []uint64) []uint64 {
-	for len(y) > 0 {
-		_, r := divide(x, y)
-		x, y = y, r
-	}
-	return x
-}
