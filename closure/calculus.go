@@ -3,56 +3,20 @@ package closure
 import (
 	"slices"
 
-	"abugida/api"
-	"abugida/semi"
+	"abugida/exact"
 )
 
-// calculus computes in a kind of semiring. A number that is too long ends the
-// computation by a panic.
+// calculus computes with rows and matrices of a kind of semiring.
 type calculus struct {
-	kind      int
-	zero, one string
+	exact.Semiring
 }
 
 func of(kind int) calculus {
-	return calculus{kind, semi.Zero(kind), semi.One(kind)}
-}
-
-// plus and times deal with the neutral values themselves, because most matrices
-// have little else.
-func (c calculus) plus(a, b string) string {
-	switch {
-	case a == c.zero:
-		return b
-	case b == c.zero:
-		return a
-	}
-	return short(semi.Plus(c.kind, a, b))
-}
-
-func (c calculus) times(a, b string) string {
-	switch {
-	case a == c.zero || b == c.one:
-		return a
-	case b == c.zero || a == c.one:
-		return b
-	}
-	return short(semi.Times(c.kind, a, b))
-}
-
-func (c calculus) star(a string) string {
-	return short(semi.Star(c.kind, a))
-}
-
-func short(a string, e api.Errno) string {
-	if e != api.OK {
-		panic(e)
-	}
-	return a
+	return calculus{exact.Of(kind)}
 }
 
 func (c calculus) zeros(n int) []string {
-	return slices.Repeat([]string{c.zero}, n)
+	return slices.Repeat([]string{c.Zero}, n)
 }
 
 // unit returns the matrix I.
@@ -60,7 +24,7 @@ func (c calculus) unit(n int) [][]string {
 	a := make([][]string, n)
 	for i := range a {
 		a[i] = c.zeros(n)
-		a[i][i] = c.one
+		a[i][i] = c.One
 	}
 	return a
 }
@@ -68,7 +32,7 @@ func (c calculus) unit(n int) [][]string {
 // sum returns a row plus those of a list, each times its factor.
 func (c calculus) sum(row, factors []string, rows [][]string) []string {
 	for i, value := range factors {
-		if value != c.zero {
+		if value != c.Zero {
 			row = combined(row, rows[i], factor{c, value}.addMultiple)
 		}
 	}
@@ -82,9 +46,9 @@ type factor struct {
 }
 
 func (f factor) multiple(a string) string {
-	return f.times(f.value, a)
+	return f.Times(f.value, a)
 }
 
 func (f factor) addMultiple(a, b string) string {
-	return f.plus(a, f.multiple(b))
+	return f.Plus(a, f.multiple(b))
 }

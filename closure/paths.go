@@ -29,7 +29,7 @@ func (c calculus) steps(m api.Machine) [][]string {
 	return mapped(m.States, func(s api.State) []string {
 		row := c.zeros(len(m.States))
 		for _, a := range s.Arcs {
-			row[a.To] = c.plus(row[a.To], a.W)
+			row[a.To] = c.Plus(row[a.To], a.W)
 		}
 		return row
 	})

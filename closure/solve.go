@@ -17,7 +17,7 @@ func (c calculus) solve(a, b [][]string) [][]string {
 	constants := mapped(rows, func(row []string) []string { return c.sum(c.zeros(len(b[0])), row, b) })
 	y := c.solve(merged, constants)
 	return combined(b, class, func(row []string, k int) []string {
-		return combined(row, y[k], c.plus)
+		return combined(row, y[k], c.Plus)
 	})
 }
 
@@ -25,7 +25,7 @@ func (c calculus) solve(a, b [][]string) [][]string {
 func (c calculus) merged(row []string, class []int, classes int) []string {
 	r := c.zeros(classes)
 	for i, k := range class {
-		r[k] = c.plus(r[k], row[i])
+		r[k] = c.Plus(r[k], row[i])
 	}
 	return r
 }
@@ -52,7 +52,7 @@ type solution struct {
 
 // solution solves an equation for its first unknown, the one that it is for.
 func (c calculus) solution(row []string) solution {
-	return solution{c, mapped(row[1:], factor{c, c.star(row[0])}.multiple)}
+	return solution{c, mapped(row[1:], factor{c, c.Star(row[0])}.multiple)}
 }
 
 // putInto returns another equation without its first unknown, which this is.
