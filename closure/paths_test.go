@@ -9,6 +9,7 @@ import (
 
 	"abugida/api"
 	"abugida/closure"
+	"abugida/samples"
 )
 
 // results are what the three functions return for a machine.
@@ -191,7 +192,7 @@ func TestSymbols(t *testing.T) {
 	r := rand.New(rand.NewPCG(7, 2))
 	for _, kind := range kinds {
 		eachMachine(kind, func(m api.Machine, cycles bool) {
-			n := twinMachine(m)
+			n := samples.Twin(m)
 			for _, s := range n.States {
 				r.Shuffle(len(s.Arcs), func(i, j int) { s.Arcs[i], s.Arcs[j] = s.Arcs[j], s.Arcs[i] })
 				for i := range s.Arcs {
@@ -296,7 +297,7 @@ func TestPathsArcs(t *testing.T) {
 
 // P7.2: numbers that are too long, and those that are not.
 func TestPathsLong(t *testing.T) {
-	most, least := nines(400), "1/"+nines(400)
+	most, least := samples.Nines(400), "1/"+samples.Nines(400)
 	for _, x := range []struct {
 		kind int
 		w    string
@@ -333,7 +334,7 @@ func TestPathsLittle(t *testing.T) {
 	r := rand.New(rand.NewPCG(7, 9))
 	for i := range 600 {
 		kind := kinds[i%3]
-		m := machineOf(r, kind, 1+r.IntN(5), 10, i%5 > 0)
+		m := samples.Random(r.IntN, kind, 1+r.IntN(5), 10, i%5 > 0)
 		m.Lead = fraction(r, false)
 		for j, s := range m.States {
 			if s.Final != "" {
@@ -353,7 +354,7 @@ func TestPathsLittle(t *testing.T) {
 func TestPathsMemory(t *testing.T) {
 	for _, kind := range kinds {
 		eachMachine(kind, func(m api.Machine, cycles bool) {
-			n, before := twinMachine(m), twinMachine(m)
+			n, before := samples.Twin(m), samples.Twin(m)
 			x, y := resultsOf(t, n), resultsOf(t, m)
 			if !reflect.DeepEqual(x, y) {
 				t.Fatalf("%v: %v, %v", m, x, y)

@@ -6,6 +6,7 @@ import (
 	"strings"
 
 	"abugida/api"
+	"abugida/samples"
 )
 
 var kinds = []int{api.Tropical, api.Probability, api.Viterbi}
@@ -20,11 +21,6 @@ func zero(kind int) string {
 
 func one(kind int) string {
 	return map[int]string{api.Tropical: "0", api.Probability: "1", api.Viterbi: "1"}[kind]
-}
-
-// nines is the greatest natural number of so many digits.
-func nines(digits int) string {
-	return strings.Repeat("9", digits)
 }
 
 // long is 1 and zeros behind it: digits digits in all.
@@ -50,7 +46,7 @@ func weights(kind int) []string {
 
 // wrong are strings that are no values of a kind.
 func wrong(kind int) []string {
-	l := []string{"", " ", "2/4", "1/0", "01", "-0", "+1", "1.5", " 1", "1 ", "1/1", "a", "Inf", "+inf", "\xff", "1 2", nines(401), "1/" + nines(401), strings.Repeat("9", 1<<16)}
+	l := []string{"", " ", "2/4", "1/0", "01", "-0", "+1", "1.5", " 1", "1 ", "1/1", "a", "Inf", "+inf", "\xff", "1 2", samples.Nines(401), "1/" + samples.Nines(401), strings.Repeat("9", 1<<16)}
 	if kind != api.Tropical {
 		l = append(l, "-1", "-1/2", "-inf")
 	}
@@ -144,41 +140,12 @@ func eachMatrix(kind int, visit func(a [][]string)) {
 	}
 }
 
-// machineOf returns a machine with random arcs and final states. Without cycles,
-// all arcs lead to later states.
-func machineOf(r *rand.Rand, kind, states, arcs int, cycles bool) api.Machine {
-	l := weights(kind)
-	pick := func() string {
-		return l[r.IntN(len(l))]
-	}
-	m := api.Machine{Kind: kind, Lead: pick(), States: make([]api.State, states)}
-	if cycles {
-		m.Start = r.IntN(states)
-	}
-	for i := range m.States {
-		if r.IntN(3) == 0 {
-			m.States[i].Final = pick()
-		}
-	}
-	for range arcs {
-		from, to := r.IntN(states), r.IntN(states)
-		if !cycles {
-			if from == to {
-				continue
-			}
-			from, to = min(from, to), max(from, to)
-		}
-		m.States[from].Arcs = append(m.States[from].Arcs, api.Arc{In: r.IntN(3), Out: r.IntN(3), W: pick(), To: to})
-	}
-	return m
-}
-
 // eachMachine visits random machines, with and without cycles.
 func eachMachine(kind int, visit func(m api.Machine, cycles bool)) {
 	r := rand.New(rand.NewPCG(77, uint64(kind)))
 	for i := range 1200 {
 		cycles := i%3 > 0
-		visit(machineOf(r, kind, 1+i%6, r.IntN(12), cycles), cycles)
+		visit(samples.Random(r.IntN, kind, 1+i%6, r.IntN(12), cycles), cycles)
 	}
 }
 
@@ -189,14 +156,4 @@ func twin(a [][]string) [][]string {
 		b[i] = append(slices.Clone(row), "spare", "spare")[:len(row)]
 	}
 	return b
-}
-
-// twinMachine is a copy of a machine that has spare capacity in each slice.
-func twinMachine(m api.Machine) api.Machine {
-	n := m
-	n.States = append(slices.Clone(m.States), api.State{Final: "spare"})[:len(m.States)]
-	for i, s := range m.States {
-		n.States[i].Arcs = append(slices.Clone(s.Arcs), api.Arc{In: 77})[:len(s.Arcs)]
-	}
-	return n
 }

@@ -10,6 +10,7 @@ import (
 
 	"abugida/api"
 	"abugida/closure"
+	"abugida/samples"
 )
 
 // equal reports whether two matrices are equal; nil and empty ones are.
@@ -218,7 +219,7 @@ func TestStarBest(t *testing.T) {
 
 // P7.1: numbers that are too long, and those that are not.
 func TestStarLong(t *testing.T) {
-	most, least := nines(400), "1/"+nines(400)
+	most, least := samples.Nines(400), "1/"+samples.Nines(400)
 	type matrix = [][]string
 	for _, x := range []struct {
 		kind int
@@ -235,7 +236,7 @@ func TestStarLong(t *testing.T) {
 		{api.Tropical, matrix{{"1/2", most}, {"inf", most}}, matrix{{"0", most}, {"inf", "0"}}},
 		{api.Probability, matrix{{"0", most}, {"0", "0"}}, matrix{{"1", most}, {"0", "1"}}},
 		{api.Probability, matrix{{"0", least}, {"0", "1"}}, matrix{{"1", "inf"}, {"0", "inf"}}},
-		{api.Probability, matrix{{least}}, matrix{{nines(400) + "/" + nines(399) + "8"}}},
+		{api.Probability, matrix{{least}}, matrix{{samples.Nines(400) + "/" + samples.Nines(399) + "8"}}},
 		{api.Viterbi, matrix{{"1/2", most}, {"0", "1/2"}}, matrix{{"1", most}, {"0", "1"}}},
 		{api.Viterbi, matrix{{"2", most}, {"0", "1/2"}}, matrix{{"inf", "inf"}, {"0", "1"}}},
 	} {

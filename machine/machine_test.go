@@ -7,6 +7,7 @@ import (
 
 	"abugida/api"
 	"abugida/machine"
+	"abugida/samples"
 )
 
 // changes are ways to make a valid machine invalid, by what is then wrong.
@@ -44,7 +45,7 @@ func changes(kind int) map[string]func(m *api.Machine) {
 	}
 	all["start after the last state"] = func(m *api.Machine) { m.Start = len(m.States) }
 	all["arc after the last state"] = func(m *api.Machine) { m.States[0].Arcs = []api.Arc{{W: "1", To: len(m.States)}} }
-	for _, w := range notWeights(kind) {
+	for _, w := range samples.NotWeights(kind) {
 		arc("weight "+w, api.Arc{W: w})
 		all["lead "+w] = func(m *api.Machine) { m.Lead = w }
 		if w != "" {
@@ -119,10 +120,10 @@ func TestSame(t *testing.T) {
 		}
 	}
 	for what, m := range machines() {
-		check(what, m, twin(m), true)
+		check(what, m, samples.Twin(m), true)
 	}
 	eachInvalid(func(what string, m api.Machine) {
-		check(what, m, twin(m), true)
+		check(what, m, samples.Twin(m), true)
 	})
 	for what, change := range map[string]func(m *api.Machine){
 		"kind":       func(m *api.Machine) { m.Kind++ },
@@ -144,7 +145,7 @@ func TestSame(t *testing.T) {
 		m := example()
 		change(&m)
 		check(what, m, example(), false)
-		check(what, m, twin(m), true)
+		check(what, m, samples.Twin(m), true)
 	}
 	check("zero", api.Machine{}, example(), false)
 	m := nothing(api.Viterbi)
@@ -157,7 +158,7 @@ func TestSame(t *testing.T) {
 func TestClone(t *testing.T) {
 	check := func(what string, m api.Machine) {
 		t.Helper()
-		before, n := twin(m), machine.Clone(m)
+		before, n := samples.Twin(m), machine.Clone(m)
 		if !machine.Same(n, m) {
 			t.Fatalf("%.50s: the copy differs", what)
 		}
@@ -168,7 +169,7 @@ func TestClone(t *testing.T) {
 	}
 	for what, m := range machines() {
 		check(what, m)
-		check(what, twin(m))
+		check(what, samples.Twin(m))
 	}
 	eachInvalid(check)
 }

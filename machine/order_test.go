@@ -7,6 +7,7 @@ import (
 
 	"abugida/api"
 	"abugida/machine"
+	"abugida/samples"
 )
 
 // change is Trim or Canon.
@@ -173,11 +174,11 @@ func TestOrdersLarge(t *testing.T) {
 func TestMemory(t *testing.T) {
 	for _, x := range orders() {
 		eachSmall(func(what string, m api.Machine) {
-			m = twin(m)
-			before := text(whole(m))
+			m = samples.Twin(m)
+			before := text(samples.Whole(m))
 			n, e := x.f(m)
 			overwrite(n)
-			if e != api.OK || text(whole(m)) != before {
+			if e != api.OK || text(samples.Whole(m)) != before {
 				t.Fatalf("%s of %s: %v, and the argument has changed to %v", x.name, what, e, m)
 			}
 		})
@@ -187,8 +188,8 @@ func TestMemory(t *testing.T) {
 // P6.4: the properties change nothing, either.
 func TestMemoryOfProperties(t *testing.T) {
 	eachSmall(func(what string, m api.Machine) {
-		m = twin(m)
-		before := text(whole(m))
+		m = samples.Twin(m)
+		before := text(samples.Whole(m))
 		machine.Valid(m)
 		machine.Same(m, m)
 		machine.Acceptor(m)
@@ -196,7 +197,7 @@ func TestMemoryOfProperties(t *testing.T) {
 		machine.Deterministic(m)
 		machine.Empty(m)
 		machine.Sigma(m)
-		if text(whole(m)) != before {
+		if text(samples.Whole(m)) != before {
 			t.Fatalf("%s: the argument has changed to %v", what, m)
 		}
 	})

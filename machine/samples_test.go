@@ -6,6 +6,7 @@ import (
 	"strings"
 
 	"abugida/api"
+	"abugida/samples"
 )
 
 var kinds = []int{api.Tropical, api.Probability, api.Viterbi}
@@ -25,18 +26,9 @@ func nothing(kind int) api.Machine {
 
 // weightsOf are weights of a kind, among them ones at the limit of 400 digits.
 func weightsOf(kind int) []string {
-	l := []string{"1", "2", "10", "1/2", "3/4", strings.Repeat("9", 400), "1/" + strings.Repeat("9", 400)}
+	l := []string{"1", "2", "10", "1/2", "3/4", samples.Nines(400), "1/" + samples.Nines(400)}
 	if kind == api.Tropical {
-		l = append(l, "0", "-1", "-7/3", "-"+strings.Repeat("9", 400))
-	}
-	return l
-}
-
-// notWeights are strings that are not weights of a kind, the empty one among them.
-func notWeights(kind int) []string {
-	l := []string{"", "inf", "-inf", "2/4", "1/0", "01", "-0", "+1", "1.5", " 1", "1/1", "a", "\xff", strings.Repeat("9", 401), strings.Repeat("9", 1<<20)}
-	if kind != api.Tropical {
-		l = append(l, "0", "-1", "-1/2")
+		l = append(l, "0", "-1", "-7/3", "-"+samples.Nines(400))
 	}
 	return l
 }
@@ -129,24 +121,4 @@ func renumbered(r *rand.Rand, m api.Machine) api.Machine {
 		n.States[to[i]] = s
 	}
 	return n
-}
-
-// twin is a copy of m, made without package machine, that has spare capacity in
-// each slice, filled with what is not in m.
-func twin(m api.Machine) api.Machine {
-	n := m
-	n.States = append(slices.Clone(m.States), api.State{Final: "spare"}, api.State{Final: "spare"})[:len(m.States)]
-	for i, s := range m.States {
-		n.States[i].Arcs = append(slices.Clone(s.Arcs), api.Arc{In: 77}, api.Arc{In: 77})[:len(s.Arcs)]
-	}
-	return n
-}
-
-// whole is m with the spare capacity of its slices.
-func whole(m api.Machine) api.Machine {
-	m.States = slices.Clone(m.States[:cap(m.States)])
-	for i, s := range m.States {
-		m.States[i].Arcs = s.Arcs[:cap(s.Arcs)]
-	}
-	return m
 }

@@ -6,6 +6,7 @@ import (
 
 	"abugida/api"
 	"abugida/machine"
+	"abugida/samples"
 	"abugida/semi"
 	"abugida/weigh"
 )
@@ -13,7 +14,7 @@ import (
 // eachPair visits random machines with pairs of words.
 func eachPair(kind int, visit func(m api.Machine, x, y []int)) {
 	r := rand.New(rand.NewPCG(88, uint64(kind)))
-	l := words(4)
+	l := samples.Words(4)
 	eachMachine(kind, 500, func(m api.Machine) {
 		for range 5 {
 			visit(m, l[r.IntN(len(l))], l[r.IntN(len(l))])
@@ -62,7 +63,7 @@ func domain(t *testing.T, m api.Machine, x []int) string {
 func TestLead(t *testing.T) {
 	for _, kind := range kinds {
 		eachPair(kind, func(m api.Machine, x, y []int) {
-			for _, w := range weights(kind) {
+			for _, w := range samples.Weights(kind) {
 				n := m
 				n.Lead, _ = semi.Times(kind, w, m.Lead)
 				want, _ := semi.Times(kind, w, weight(t, m, x, y))

@@ -9,6 +9,7 @@ import (
 
 	"abugida/api"
 	"abugida/machine"
+	"abugida/samples"
 	"abugida/semi"
 	"abugida/weigh"
 )
@@ -35,10 +36,10 @@ func TestExamples(t *testing.T) {
 	of(weigh.Domain(p, nil)).is(t, "0", api.OK)
 	of(weigh.Domain(p, []int{1, 1})).is(t, "0", api.OK)
 	of(weigh.Accepts(p, []int{1})).is(t, "", api.ErrType)
-	half := loop(api.Probability, "1", "1/2", api.Arc{In: 1, W: "1/2"})
+	half := samples.Loop(api.Probability, "1", "1/2", api.Arc{In: 1, W: "1/2"})
 	of(weigh.Weight(half, []int{1, 1}, nil)).is(t, "1/8", api.OK)
 	of(weigh.Weight(half, []int{1, 1}, []int{1})).is(t, "0", api.OK)
-	less := loop(api.Tropical, "0", "0", api.Arc{W: "-1"})
+	less := samples.Loop(api.Tropical, "0", "0", api.Arc{W: "-1"})
 	of(weigh.Weight(less, nil, nil)).is(t, "-inf", api.OK)
 	of(weigh.Weight(less, []int{1}, nil)).is(t, "inf", api.OK)
 	of(weigh.Weight(less, []int{0}, nil)).is(t, "", api.ErrArg)
@@ -50,7 +51,7 @@ func TestSilentCycles(t *testing.T) {
 	ring := func(kind int, w string) api.Machine {
 		return api.Machine{Kind: kind, Lead: semi.One(kind), States: []api.State{
 			{Arcs: []api.Arc{{W: w, To: 1}}},
-			{Arcs: []api.Arc{{W: w, To: 2}, symbol(1, w, 3)}},
+			{Arcs: []api.Arc{{W: w, To: 2}, samples.Symbol(1, w, 3)}},
 			{Arcs: []api.Arc{{W: w, To: 0}}},
 			{Final: semi.One(kind), Arcs: []api.Arc{{W: w, To: 3}, {W: w, To: 4}}},
 			{Arcs: []api.Arc{{W: w, To: 4}}},
@@ -98,9 +99,9 @@ func TestTotals(t *testing.T) {
 				t.Fatalf("%v of %v, %v is %v, not %s", m, x, y, got, w)
 			}
 		}
-		short := words(3)
+		short := samples.Words(3)
 		eachMachine(kind, 500, func(m api.Machine) {
-			a := acceptorOf(m)
+			a := samples.Acceptor(m)
 			for range 6 {
 				x, y := short[r.IntN(len(short))], short[r.IntN(len(short))]
 				check(m, x, y, of(weigh.Weight(m, x, y)))
@@ -115,7 +116,7 @@ func TestTotals(t *testing.T) {
 
 // P8.1 to P8.3: machines without cycles, path by path.
 func TestPaths(t *testing.T) {
-	short := words(3)
+	short := samples.Words(3)
 	for _, kind := range kinds {
 		eachMachine(kind, 600, func(m api.Machine) {
 			if cyclic(m) {
@@ -133,7 +134,7 @@ func TestPaths(t *testing.T) {
 				}
 				return of(w, api.OK)
 			}
-			a := acceptorOf(m)
+			a := samples.Acceptor(m)
 			for _, x := range short {
 				for _, y := range short[:7] {
 					if got := of(weigh.Weight(m, x, y)); got != want(pairs, x, y) {
@@ -165,7 +166,7 @@ func cyclic(m api.Machine) bool {
 func TestDomain(t *testing.T) {
 	for _, kind := range kinds {
 		eachMachine(kind, 300, func(m api.Machine) {
-			mute, bounded := twin(m), twin(m)
+			mute, bounded := samples.Twin(m), samples.Twin(m)
 			for i, s := range m.States {
 				for j, a := range s.Arcs {
 					mute.States[i].Arcs[j].Out = 0
@@ -174,10 +175,10 @@ func TestDomain(t *testing.T) {
 					}
 				}
 			}
-			for _, x := range words(3) {
+			for _, x := range samples.Words(3) {
 				of(weigh.Domain(m, x)).is(t, weight(t, mute, x, nil), api.OK, m, x)
 				sum := semi.Zero(kind)
-				for _, y := range words(len(x)) {
+				for _, y := range samples.Words(len(x)) {
 					sum, _ = semi.Plus(kind, sum, weight(t, bounded, x, y))
 				}
 				of(weigh.Domain(bounded, x)).is(t, sum, api.OK, bounded, x)
@@ -198,17 +199,17 @@ func weight(t *testing.T, m api.Machine, x, y []int) string {
 
 // P8.1 to P8.3, R2: arguments that are not valid, before all other errors.
 func TestWrong(t *testing.T) {
-	large := chain(api.Viterbi, 61, api.Arc{W: "1"})
+	large := samples.Chain(api.Viterbi, 61, api.Arc{W: "1"})
 	large.States[0].Arcs = append(large.States[0].Arcs, api.Arc{In: 1, W: "1"})
-	for _, m := range slices.Concat(broken(two()), broken(chain(api.Tropical, 2, symbol(1, "1", 0))), broken(large)) {
+	for _, m := range slices.Concat(samples.Broken(two()), samples.Broken(samples.Chain(api.Tropical, 2, samples.Symbol(1, "1", 0))), samples.Broken(large)) {
 		for _, x := range [][]int{nil, {1}, {0}} {
 			of(weigh.Weight(m, x, []int{1})).is(t, "", api.ErrArg, m)
 			of(weigh.Accepts(m, x)).is(t, "", api.ErrArg, m)
 			of(weigh.Domain(m, x)).is(t, "", api.ErrArg, m)
 		}
 	}
-	for _, m := range []api.Machine{two(), chain(api.Tropical, 2, symbol(1, "1", 0)), large} {
-		for _, x := range notWords() {
+	for _, m := range []api.Machine{two(), samples.Chain(api.Tropical, 2, samples.Symbol(1, "1", 0)), large} {
+		for _, x := range samples.NotWords() {
 			of(weigh.Weight(m, x, []int{1})).is(t, "", api.ErrArg, m)
 			of(weigh.Weight(m, []int{1}, x)).is(t, "", api.ErrArg, m)
 			of(weigh.Accepts(m, x)).is(t, "", api.ErrArg, m)
@@ -216,8 +217,8 @@ func TestWrong(t *testing.T) {
 		}
 	}
 	of(weigh.Accepts(large, nil)).is(t, "", api.ErrType)
-	of(weigh.Accepts(loop(api.Tropical, "0", "0", api.Arc{In: 1, Out: 2, W: "0"}), nil)).is(t, "", api.ErrType)
-	of(weigh.Accepts(loop(api.Tropical, "0", "0", api.Arc{Out: 2, W: "0"}), []int{1})).is(t, "", api.ErrType)
+	of(weigh.Accepts(samples.Loop(api.Tropical, "0", "0", api.Arc{In: 1, Out: 2, W: "0"}), nil)).is(t, "", api.ErrType)
+	of(weigh.Accepts(samples.Loop(api.Tropical, "0", "0", api.Arc{Out: 2, W: "0"}), []int{1})).is(t, "", api.ErrType)
 }
 
 // P8.1 to P8.3: machines of more than 60 states, quiet and not.
@@ -231,7 +232,7 @@ func TestStates(t *testing.T) {
 				}
 				return w, api.OK
 			}
-			quiet := chain(kind, states, symbol(7, one, 0))
+			quiet := samples.Chain(kind, states, samples.Symbol(7, one, 0))
 			sevens := slices.Repeat([]int{7}, min(states-1, 200))
 			want := one
 			if states > 201 {
@@ -241,9 +242,9 @@ func TestStates(t *testing.T) {
 			of(weigh.Accepts(quiet, sevens)).is(t, want, api.OK, kind, states)
 			of(weigh.Domain(quiet, sevens)).is(t, want, api.OK, kind, states)
 			// One silent arc, which need not be on a path.
-			pause := twin(quiet)
+			pause := samples.Twin(quiet)
 			pause.States[states-1].Arcs = []api.Arc{{W: one, To: states - 1}}
-			dead := twin(pause)
+			dead := samples.Twin(pause)
 			dead.States[states-2].Arcs[0].To = 0
 			for _, m := range []api.Machine{pause, dead} {
 				w, e := long(zero)
@@ -252,14 +253,14 @@ func TestStates(t *testing.T) {
 				of(weigh.Domain(m, nil)).is(t, w, e, kind, states)
 			}
 			// For Weight, an arc without an input is not silent.
-			speaks := chain(kind, states, symbol(7, one, 0))
+			speaks := samples.Chain(kind, states, samples.Symbol(7, one, 0))
 			speaks.States[states-1].Arcs = []api.Arc{{Out: 1, W: one, To: states - 1}}
 			of(weigh.Weight(speaks, nil, nil)).is(t, zero, api.OK, kind, states)
 			w, e := long(zero)
 			of(weigh.Domain(speaks, nil)).is(t, w, e, kind, states)
 			of(weigh.Accepts(speaks, nil)).is(t, "", api.ErrType, kind, states)
 			// For Domain, an arc without an output is not silent.
-			speaks = chain(kind, states, api.Arc{In: 7, W: one})
+			speaks = samples.Chain(kind, states, api.Arc{In: 7, W: one})
 			of(weigh.Domain(speaks, sevens)).is(t, want, api.OK, kind, states)
 			of(weigh.Weight(speaks, sevens, nil)).is(t, want, api.OK, kind, states)
 		}
@@ -271,9 +272,9 @@ func TestStates(t *testing.T) {
 func TestLongWords(t *testing.T) {
 	var arcs []api.Arc
 	for _, a := range []int{1, 250, 500} {
-		arcs = append(arcs, api.Arc{In: a, W: "1"}, api.Arc{Out: a, W: "1"}, symbol(a, "0", 0), api.Arc{In: a, Out: 501 - a, W: "3/2"})
+		arcs = append(arcs, api.Arc{In: a, W: "1"}, api.Arc{Out: a, W: "1"}, samples.Symbol(a, "0", 0), api.Arc{In: a, Out: 501 - a, W: "3/2"})
 	}
-	m := loop(api.Tropical, "1/3", "0", arcs...)
+	m := samples.Loop(api.Tropical, "1/3", "0", arcs...)
 	x, y := slices.Repeat([]int{1, 500, 250, 250}, 50), slices.Repeat([]int{500, 250, 250, 1}, 50)
 	// The first symbol of x is dropped, and one is inserted at the end.
 	of(weigh.Weight(m, x, y)).is(t, "7/3", api.OK)
@@ -282,7 +283,7 @@ func TestLongWords(t *testing.T) {
 	of(weigh.Weight(m, nil, y)).is(t, "601/3", api.OK)
 	of(weigh.Domain(m, x)).is(t, "1/3", api.OK)
 	of(weigh.Weight(m, slices.Repeat([]int{1}, 200), slices.Repeat([]int{500}, 200))).is(t, "901/3", api.OK)
-	a := loop(api.Viterbi, "1", "1/2", symbol(500, "2", 0))
+	a := samples.Loop(api.Viterbi, "1", "1/2", samples.Symbol(500, "2", 0))
 	of(weigh.Accepts(a, slices.Repeat([]int{500}, 200))).is(t, "803469022129495137770981046170581301261101496891396417650688", api.OK)
 }
 
@@ -292,7 +293,7 @@ func TestLargest(t *testing.T) {
 	wide := api.Machine{Kind: api.Tropical, Lead: "0", States: make([]api.State, 3000)}
 	for i := range wide.States {
 		for a := 1; a <= 10; a++ {
-			wide.States[i].Arcs = append(wide.States[i].Arcs, symbol(a, strconv.Itoa(a), (i*a+1)%3000))
+			wide.States[i].Arcs = append(wide.States[i].Arcs, samples.Symbol(a, strconv.Itoa(a), (i*a+1)%3000))
 		}
 	}
 	wide.States[0].Final = "0"
@@ -310,7 +311,7 @@ func TestLargest(t *testing.T) {
 	for a := range 30000 {
 		arcs = append(arcs, api.Arc{In: a / 100, Out: 1 + a%100, W: "1"})
 	}
-	one := loop(api.Tropical, "0", "0", arcs...)
+	one := samples.Loop(api.Tropical, "0", "0", arcs...)
 	y := make([]int, 200)
 	for i := range y {
 		x[i], y[i] = 1+i*7%299, 1+i*i%100
@@ -325,8 +326,8 @@ func TestLargest(t *testing.T) {
 func TestLongNumbers(t *testing.T) {
 	for _, kind := range kinds {
 		one, zero := semi.One(kind), semi.Zero(kind)
-		for _, w := range longest(kind) {
-			m := chain(kind, 3, symbol(1, w, 0))
+		for _, w := range samples.Longest(kind) {
+			m := samples.Chain(kind, 3, samples.Symbol(1, w, 0))
 			m.States[1].Final = one
 			of(weigh.Accepts(m, []int{1})).is(t, w, api.OK, kind)
 			of(weigh.Weight(m, []int{1}, []int{1})).is(t, w, api.OK, kind)
@@ -337,24 +338,24 @@ func TestLongNumbers(t *testing.T) {
 			// No path goes further, or comes from the start to the long way.
 			m.States[2].Final = ""
 			of(weigh.Accepts(m, []int{1, 1})).is(t, zero, api.OK, kind)
-			m = chain(kind, 4, symbol(1, w, 0))
-			m.States[0].Arcs = []api.Arc{symbol(1, one, 3)}
-			m.States[3].Arcs = []api.Arc{symbol(1, one, 3)}
+			m = samples.Chain(kind, 4, samples.Symbol(1, w, 0))
+			m.States[0].Arcs = []api.Arc{samples.Symbol(1, one, 3)}
+			m.States[3].Arcs = []api.Arc{samples.Symbol(1, one, 3)}
 			of(weigh.Accepts(m, []int{1, 1})).is(t, one, api.OK, kind)
 		}
 	}
-	most := loop(api.Probability, "1", "1", symbol(1, nines(400), 0), symbol(1, nines(400), 0))
+	most := samples.Loop(api.Probability, "1", "1", samples.Symbol(1, samples.Nines(400), 0), samples.Symbol(1, samples.Nines(400), 0))
 	of(weigh.Accepts(most, []int{1})).is(t, "", api.ErrLong)
 	most.Kind = api.Viterbi
-	of(weigh.Accepts(most, []int{1})).is(t, nines(400), api.OK)
+	of(weigh.Accepts(most, []int{1})).is(t, samples.Nines(400), api.OK)
 	of(weigh.Accepts(most, []int{2})).is(t, "0", api.OK)
 }
 
 // P8.1, R9: silent paths whose sums are too long, and lead nowhere.
 func TestLongSilent(t *testing.T) {
-	m := chain(api.Probability, 2, symbol(1, "1/2", 0))
+	m := samples.Chain(api.Probability, 2, samples.Symbol(1, "1/2", 0))
 	m.States[0].Arcs = append(m.States[0].Arcs, api.Arc{W: "1/3", To: 2})
-	m.States = append(m.States, api.State{Arcs: []api.Arc{{W: "1/" + nines(400), To: 3}}}, api.State{Arcs: []api.Arc{{W: "1/" + nines(399), To: 2}}})
+	m.States = append(m.States, api.State{Arcs: []api.Arc{{W: "1/" + samples.Nines(400), To: 3}}}, api.State{Arcs: []api.Arc{{W: "1/" + samples.Nines(399), To: 2}}})
 	of(weigh.Accepts(m, []int{1})).is(t, "1/2", api.OK)
 	of(weigh.Accepts(m, nil)).is(t, "0", api.OK)
 	m.States[3].Final = "1"
@@ -367,7 +368,7 @@ func TestLongSilent(t *testing.T) {
 func TestLittle(t *testing.T) {
 	r := rand.New(rand.NewPCG(8, 9))
 	for i := range 400 {
-		m := random(r, api.Probability, 5, 10, true)
+		m := samples.Random(r.IntN, api.Probability, 5, 10, true)
 		m.Lead = little(r, 9000)
 		for j := range m.States {
 			m.States[j].Final = little(r, 9000)
@@ -412,14 +413,14 @@ func little(r *rand.Rand, limit int) string {
 func TestMemory(t *testing.T) {
 	for _, kind := range kinds {
 		eachMachine(kind, 100, func(m api.Machine) {
-			m = twin(m)
-			before := whole(twin(m))
+			m = samples.Twin(m)
+			before := samples.Whole(samples.Twin(m))
 			x, y := append(make([]int, 0, 5), 1, 2), append(make([]int, 0, 5), 2)
 			w := of(weigh.Weight(m, x, y))
 			weigh.Domain(m, x)
 			weigh.Accepts(m, x)
 			weigh.Words(m, 3)
-			if !machine.Same(whole(m), before) || !slices.Equal(x[:5], []int{1, 2, 0, 0, 0}) || !slices.Equal(y[:5], []int{2, 0, 0, 0, 0}) {
+			if !machine.Same(samples.Whole(m), before) || !slices.Equal(x[:5], []int{1, 2, 0, 0, 0}) || !slices.Equal(y[:5], []int{2, 0, 0, 0, 0}) {
 				t.Fatalf("%v, %v, %v have been changed", m, x, y)
 			}
 			if again := of(weigh.Weight(m, x, y)); again != w {

@@ -8,6 +8,7 @@ import (
 	"testing"
 
 	"abugida/api"
+	"abugida/samples"
 	"abugida/semi"
 	"abugida/weigh"
 )
@@ -29,7 +30,7 @@ func TestWordsExamples(t *testing.T) {
 			t.Errorf("%v, %d: %v, %v", m, most, l, e)
 		}
 	}
-	m := loop(api.Tropical, "0", "1", symbol(1, "2", 0))
+	m := samples.Loop(api.Tropical, "0", "1", samples.Symbol(1, "2", 0))
 	all := []api.Answer{{W: "1"}, {Word: []int{1}, W: "3"}, {Word: []int{1, 1}, W: "5"}}
 	for most := range 3 {
 		check(m, most, all[:most+1])
@@ -42,12 +43,12 @@ func TestWordsExamples(t *testing.T) {
 	}
 	m.States[0].Final = ""
 	check(m, 20, nil)
-	check(chain(api.Viterbi, 3, symbol(9, "1/2", 0)), 1, nil)
-	check(chain(api.Viterbi, 3, symbol(9, "1/2", 0)), 20, []api.Answer{{Word: []int{9, 9}, W: "1/4"}})
+	check(samples.Chain(api.Viterbi, 3, samples.Symbol(9, "1/2", 0)), 1, nil)
+	check(samples.Chain(api.Viterbi, 3, samples.Symbol(9, "1/2", 0)), 20, []api.Answer{{Word: []int{9, 9}, W: "1/4"}})
 	// The order of words is not the order of the paths, of the arcs or of the values.
 	some := api.Machine{Kind: api.Probability, Lead: "1", States: []api.State{
-		{Arcs: []api.Arc{symbol(500, "1/4", 1), symbol(2, "1/2", 1), symbol(10, "1/3", 1), {W: "1/2", To: 1}, symbol(2, "1/4", 2)}},
-		{Final: "1", Arcs: []api.Arc{symbol(1, "1/5", 2)}},
+		{Arcs: []api.Arc{samples.Symbol(500, "1/4", 1), samples.Symbol(2, "1/2", 1), samples.Symbol(10, "1/3", 1), {W: "1/2", To: 1}, samples.Symbol(2, "1/4", 2)}},
+		{Final: "1", Arcs: []api.Arc{samples.Symbol(1, "1/5", 2)}},
 		{Final: "2"},
 	}}
 	check(some, 20, []api.Answer{
@@ -60,12 +61,12 @@ func TestWordsExamples(t *testing.T) {
 func TestWords(t *testing.T) {
 	for _, kind := range kinds {
 		eachMachine(kind, 400, func(m api.Machine) {
-			m = acceptorOf(m)
+			m = samples.Acceptor(m)
 			l, e := weigh.Words(m, 3)
 			if e != api.OK {
 				t.Fatalf("%v: %v", m, e)
 			}
-			for _, x := range words(3) {
+			for _, x := range samples.Words(3) {
 				if !hasPath(m, x, x) {
 					continue
 				}
@@ -83,8 +84,8 @@ func TestWords(t *testing.T) {
 
 // P8.4: arguments that are not valid, and the order of the errors.
 func TestWordsWrong(t *testing.T) {
-	large := chain(api.Viterbi, 61, api.Arc{W: "1"})
-	for _, m := range slices.Concat(broken(two()), broken(chain(api.Tropical, 2, symbol(1, "1", 0))), broken(large)) {
+	large := samples.Chain(api.Viterbi, 61, api.Arc{W: "1"})
+	for _, m := range slices.Concat(samples.Broken(two()), samples.Broken(samples.Chain(api.Tropical, 2, samples.Symbol(1, "1", 0))), samples.Broken(large)) {
 		fails(t, m, 3, api.ErrArg)
 		fails(t, m, 21, api.ErrArg)
 	}
@@ -95,10 +96,10 @@ func TestWordsWrong(t *testing.T) {
 	large.States[0].Arcs = append(large.States[0].Arcs, api.Arc{In: 1, W: "1"})
 	fails(t, large, 1, api.ErrType)
 	fails(t, large, -1, api.ErrArg)
-	if l, e := weigh.Words(chain(api.Viterbi, 60, api.Arc{W: "1"}), 20); len(l) != 1 || e != api.OK || l[0].W != "1" {
+	if l, e := weigh.Words(samples.Chain(api.Viterbi, 60, api.Arc{W: "1"}), 20); len(l) != 1 || e != api.OK || l[0].W != "1" {
 		t.Errorf("%v, %v", l, e)
 	}
-	if l, e := weigh.Words(chain(api.Viterbi, 3000, symbol(1, "1", 0)), 20); len(l) != 0 || e != api.OK {
+	if l, e := weigh.Words(samples.Chain(api.Viterbi, 3000, samples.Symbol(1, "1", 0)), 20); len(l) != 0 || e != api.OK {
 		t.Errorf("%v, %v", l, e)
 	}
 }
@@ -106,11 +107,11 @@ func TestWordsWrong(t *testing.T) {
 // P8.4: the limit of 500 words; longer ones do not count.
 func TestWordsLimit(t *testing.T) {
 	fan := func(symbols int, final string) api.Machine {
-		m := loop(api.Tropical, "0", final)
+		m := samples.Loop(api.Tropical, "0", final)
 		for a := symbols; a > 0; a-- {
-			m.States[0].Arcs = append(m.States[0].Arcs, symbol(a, "1", 1))
+			m.States[0].Arcs = append(m.States[0].Arcs, samples.Symbol(a, "1", 1))
 		}
-		m.States = append(m.States, api.State{Final: "0", Arcs: []api.Arc{symbol(1, "0", 1)}})
+		m.States = append(m.States, api.State{Final: "0", Arcs: []api.Arc{samples.Symbol(1, "0", 1)}})
 		return m
 	}
 	for most, x := range []struct {
@@ -144,9 +145,9 @@ func TestWordsDeadEnds(t *testing.T) {
 	levels := api.Machine{Kind: api.Tropical, Lead: "0", States: make([]api.State, 42)}
 	for i := range 20 {
 		for a := 1; a <= 500; a++ {
-			levels.States[i].Arcs = append(levels.States[i].Arcs, symbol(a, "0", i+1))
+			levels.States[i].Arcs = append(levels.States[i].Arcs, samples.Symbol(a, "0", i+1))
 		}
-		levels.States[21+i].Arcs = []api.Arc{symbol(1+i, "1", 22+i)}
+		levels.States[21+i].Arcs = []api.Arc{samples.Symbol(1+i, "1", 22+i)}
 	}
 	levels.States[0].Arcs = append(levels.States[0].Arcs, api.Arc{W: "0", To: 21})
 	levels.States[41].Final = "0"
@@ -163,8 +164,8 @@ func TestWordsDeadEnds(t *testing.T) {
 // P8.4, R9: a value that is too long, and one that belongs to a longer word.
 func TestWordsLong(t *testing.T) {
 	for _, kind := range kinds {
-		for _, w := range longest(kind) {
-			m := loop(kind, semi.One(kind), semi.One(kind), symbol(1, w, 0))
+		for _, w := range samples.Longest(kind) {
+			m := samples.Loop(kind, semi.One(kind), semi.One(kind), samples.Symbol(1, w, 0))
 			if l, e := weigh.Words(m, 1); len(l) != 2 || e != api.OK || l[1].W != w {
 				t.Errorf("%.300s, %v", fmt.Sprint(l), e)
 			}
@@ -177,7 +178,7 @@ func TestWordsLong(t *testing.T) {
 func TestWordsMemory(t *testing.T) {
 	r := rand.New(rand.NewPCG(8, 4))
 	for range 100 {
-		m := acceptorOf(random(r, api.Viterbi, 3, 8, true))
+		m := samples.Acceptor(samples.Random(r.IntN, api.Viterbi, 3, 8, true))
 		l, _ := weigh.Words(m, 5)
 		k, _ := weigh.Words(m, 5)
 		for i, a := range l {
