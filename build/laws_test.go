@@ -13,12 +13,12 @@ import (
 
 func union(t *testing.T, a, b api.Machine) api.Machine {
 	t.Helper()
-	return of(build.Union(a, b)).done(t)
+	return of(build.Union(a, b)).Done(t)
 }
 
 func concat(t *testing.T, a, b api.Machine) api.Machine {
 	t.Helper()
-	return of(build.Concat(a, b)).done(t)
+	return of(build.Concat(a, b)).Done(t)
 }
 
 // P9.8: what is made of acceptors, and of words that are equal.
@@ -34,7 +34,7 @@ func TestAcceptors(t *testing.T) {
 		})
 		for range 100 {
 			x := word(r, r.IntN(201))
-			if m := of(build.Word(kind, x, x, "1")).done(t, x); !machine.Acceptor(m) {
+			if m := of(build.Word(kind, x, x, "1")).Done(t, x); !machine.Acceptor(m) {
 				t.Fatalf("%v: %v", x, m)
 			}
 		}
@@ -60,9 +60,9 @@ func TestLaws(t *testing.T) {
 // P9.10: all powers are the one without factors, and one factor before all powers.
 func TestStarLaw(t *testing.T) {
 	for _, kind := range kinds {
-		empty := of(build.Word(kind, nil, nil, semi.One(kind))).done(t)
+		empty := of(build.Word(kind, nil, nil, semi.One(kind))).Done(t)
 		eachMachine(kind, 100, func(a api.Machine) {
-			s := of(build.Star(a)).done(t)
+			s := of(build.Star(a)).Done(t)
 			same(t, s, union(t, empty, concat(t, a, s)), a)
 		})
 	}
@@ -74,8 +74,8 @@ func TestRepeatLaw(t *testing.T) {
 		eachMachine(kind, 12, func(a api.Machine) {
 			for n := range 4 {
 				for k := range 4 {
-					first, rest := of(build.Repeat(a, n, n)).done(t), of(build.Repeat(a, 0, k)).done(t)
-					same(t, concat(t, first, rest), of(build.Repeat(a, n, n+k)).done(t), n, k, a)
+					first, rest := of(build.Repeat(a, n, n)).Done(t), of(build.Repeat(a, 0, k)).Done(t)
+					same(t, concat(t, first, rest), of(build.Repeat(a, n, n+k)).Done(t), n, k, a)
 				}
 			}
 		})
@@ -85,34 +85,9 @@ func TestRepeatLaw(t *testing.T) {
 // R7: if no weight of the arguments is better than One, none of the result is.
 func TestNotBetter(t *testing.T) {
 	for _, kind := range []int{api.Tropical, api.Viterbi} {
-		one := semi.One(kind)
-		worse := func(w string) bool { return w == "" || semi.Better(kind, w, one) >= 0 }
-		cut := func(m api.Machine) api.Machine {
-			change := func(w *string) {
-				if !worse(*w) {
-					*w = one
-				}
-			}
-			m = samples.Twin(m)
-			change(&m.Lead)
-			for i := range m.States {
-				change(&m.States[i].Final)
-				for j := range m.States[i].Arcs {
-					change(&m.States[i].Arcs[j].W)
-				}
-			}
-			return m
-		}
 		eachPair(kind, 200, func(a, b api.Machine) {
-			for _, m := range results(t, cut(a), cut(b), one) {
-				good := worse(m.Lead)
-				for _, s := range m.States {
-					good = good && worse(s.Final)
-					for _, arc := range s.Arcs {
-						good = good && worse(arc.W)
-					}
-				}
-				if !good {
+			for _, m := range results(t, samples.Bounded(a), samples.Bounded(b), semi.One(kind)) {
+				if !samples.IsBounded(m) {
 					t.Fatalf("%v, %v: %v", a, b, m)
 				}
 			}

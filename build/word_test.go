@@ -13,50 +13,18 @@ import (
 	"abugida/semi"
 )
 
-// path is what a path spells, and its weight.
-type path struct {
-	x, y []int
-	w    string
-}
-
-// paths returns the paths of at most so many arcs.
-func paths(m api.Machine, most int) []path {
-	var l []path
-	var from func(state int, p path, left int)
-	from = func(state int, p path, left int) {
-		if s := m.States[state].Final; s != "" {
-			l = append(l, path{slices.Clone(p.x), slices.Clone(p.y), times(m.Kind, p.w, s)})
-		}
-		if left == 0 {
-			return
-		}
-		for _, a := range m.States[state].Arcs {
-			from(a.To, path{spelled(p.x, a.In), spelled(p.y, a.Out), times(m.Kind, p.w, a.W)}, left-1)
-		}
-	}
-	from(m.Start, path{w: m.Lead}, most)
-	return l
-}
-
-func spelled(x []int, a int) []int {
-	if a == 0 {
-		return x
-	}
-	return append(x, a)
-}
-
 // P9.1: a single path, for words of all lengths and with all weights.
 func TestWord(t *testing.T) {
 	r := rand.New(rand.NewPCG(9, 1))
 	check := func(kind int, x, y []int, w string) {
 		t.Helper()
-		m := of(build.Word(kind, x, y, w)).done(t, kind, x, y, w)
+		m := of(build.Word(kind, x, y, w)).Done(t, kind, x, y, w)
 		most := max(len(x), len(y))
 		if m.Kind != kind || len(m.States) > most+1 {
 			t.Errorf("%v, %v: kind %d, %d states", x, y, m.Kind, len(m.States))
 		}
-		l := paths(m, most+5)
-		if len(l) != 1 || !slices.Equal(l[0].x, x) || !slices.Equal(l[0].y, y) || l[0].w != w {
+		l := samples.Paths(m, most+5)
+		if len(l) != 1 || !slices.Equal(l[0].X, x) || !slices.Equal(l[0].Y, y) || l[0].W != w {
 			t.Fatalf("%v, %v, %.50s: %v", x, y, w, l)
 		}
 	}
@@ -98,7 +66,7 @@ func TestWordValues(t *testing.T) {
 					want := product(kind, unit(kind), unit(kind))
 					want[[2]string{}] = semi.Zero(kind)
 					want[[2]string{samples.Text(x), samples.Text(y)}] = w
-					agree(t, relation(t, of(build.Word(kind, x, y, w)).done(t)), want, kind, x, y, w)
+					samples.Agree(t, relation(t, of(build.Word(kind, x, y, w)).Done(t)), want, kind, x, y, w)
 				}
 			}
 		}
@@ -108,15 +76,15 @@ func TestWordValues(t *testing.T) {
 // P9.1: what is no kind, no word or no weight.
 func TestWordWrong(t *testing.T) {
 	for _, kind := range []int{0, 4, -1, 5, math.MinInt, math.MaxInt, 1<<32 + 1} {
-		of(build.Word(kind, []int{1}, []int{1}, "1")).fails(t, api.ErrArg, kind)
+		of(build.Word(kind, []int{1}, []int{1}, "1")).Fails(t, api.ErrArg, kind)
 	}
 	for _, kind := range kinds {
 		for _, x := range samples.NotWords() {
-			of(build.Word(kind, x, nil, "1")).fails(t, api.ErrArg, kind)
-			of(build.Word(kind, []int{1}, x, "1")).fails(t, api.ErrArg, kind)
+			of(build.Word(kind, x, nil, "1")).Fails(t, api.ErrArg, kind)
+			of(build.Word(kind, []int{1}, x, "1")).Fails(t, api.ErrArg, kind)
 		}
 		for _, w := range samples.NotWeights(kind) {
-			of(build.Word(kind, []int{1}, []int{1}, w)).fails(t, api.ErrArg, kind, w)
+			of(build.Word(kind, []int{1}, []int{1}, w)).Fails(t, api.ErrArg, kind, w)
 		}
 	}
 }
@@ -126,16 +94,16 @@ func TestLetters(t *testing.T) {
 	r := rand.New(rand.NewPCG(9, 2))
 	check := func(kind int, l []int) {
 		t.Helper()
-		m := of(build.Letters(kind, l)).done(t, kind, l)
+		m := of(build.Letters(kind, l)).Done(t, kind, l)
 		if m.Kind != kind || len(m.States) > 2 || !machine.Deterministic(m) {
 			t.Errorf("%v: %v", l, m)
 		}
 		var found []int
-		for _, p := range paths(m, 3) {
-			if len(p.x) != 1 || p.w != semi.One(kind) {
+		for _, p := range samples.Paths(m, 3) {
+			if len(p.X) != 1 || p.W != semi.One(kind) {
 				t.Errorf("%v: %v", l, p)
 			}
-			found = append(found, p.x...)
+			found = append(found, p.X...)
 		}
 		slices.Sort(found)
 		want := slices.Compact(slices.Sorted(slices.Values(l)))
@@ -160,12 +128,12 @@ func TestLetters(t *testing.T) {
 // P9.2: what is no kind and no symbol.
 func TestLettersWrong(t *testing.T) {
 	for _, kind := range []int{0, 4, -1, 5, math.MinInt, math.MaxInt, 1<<32 + 1} {
-		of(build.Letters(kind, []int{1})).fails(t, api.ErrArg, kind)
-		of(build.Letters(kind, nil)).fails(t, api.ErrArg, kind)
+		of(build.Letters(kind, []int{1})).Fails(t, api.ErrArg, kind)
+		of(build.Letters(kind, nil)).Fails(t, api.ErrArg, kind)
 	}
 	for _, kind := range kinds {
 		for _, l := range [][]int{{0}, {501}, {-1}, {1, 2, 0}, {0, 1, 2}, {1, 501, 2}, {math.MinInt}, {math.MaxInt}, {1<<32 + 1}, make([]int, 100000)} {
-			of(build.Letters(kind, l)).fails(t, api.ErrArg, kind)
+			of(build.Letters(kind, l)).Fails(t, api.ErrArg, kind)
 		}
 	}
 }

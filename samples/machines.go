@@ -4,6 +4,7 @@ package samples
 
 import (
 	"slices"
+	"strconv"
 	"strings"
 
 	"abugida/api"
@@ -63,6 +64,26 @@ func Chain(kind, states int, arc api.Arc) api.Machine {
 	return m
 }
 
+// Row is a machine of states in a row, whose path has a symbol for each arc.
+func Row(kind, states int) api.Machine {
+	return Chain(kind, states, Symbol(1, semi.One(kind), 0))
+}
+
+// Bunch is a machine of one final state with so many arcs to itself, which have
+// many symbols, and of others that are final, too.
+func Bunch(kind, arcs, finals int) api.Machine {
+	one := semi.One(kind)
+	l := make([]api.Arc, arcs)
+	for i := range l {
+		l[i] = Symbol(1+i%api.MaxSymbols, one, 0)
+	}
+	m := Loop(kind, one, one, l...)
+	for range finals - 1 {
+		m.States = append(m.States, api.State{Final: one})
+	}
+	return m
+}
+
 // Random returns a machine of the symbols 1 and 2, as choose decides, which
 // returns numbers below the one that it is passed. Without cycles, the arcs lead
 // to later states, and there may be fewer of them.
@@ -97,6 +118,36 @@ func Random(choose func(n int) int, kind, states, arcs int, cycles bool) api.Mac
 	return m
 }
 
+// Little is a random machine whose weights have numerators and denominators of four
+// digits, in all states.
+func Little(choose func(n int) int, kind, states, arcs int) api.Machine {
+	m := Random(choose, kind, states, arcs, true)
+	for w := range weightsIn(&m) {
+		*w = little(choose, kind)
+	}
+	return m
+}
+
+// little chooses fractions until one is in lowest terms.
+func little(choose func(n int) int, kind int) string {
+	for {
+		w := strconv.Itoa(1000+choose(9000)) + "/" + strconv.Itoa(1000+choose(9000))
+		if semi.Weight(kind, w) {
+			return w
+		}
+	}
+}
+
+// Machines are random machines of a kind, small ones of several sizes. Some have
+// no cycles.
+func Machines(choose func(n int) int, kind, n int) []api.Machine {
+	l := make([]api.Machine, n)
+	for i := range l {
+		l[i] = Random(choose, kind, 1+i%4, choose(9), i%3 > 0)
+	}
+	return l
+}
+
 // Acceptor returns the machine m with the inputs of the arcs as their outputs,
 // too.
 func Acceptor(m api.Machine) api.Machine {
@@ -105,26 +156,6 @@ func Acceptor(m api.Machine) api.Machine {
 		for i, a := range s.Arcs {
 			s.Arcs[i].Out = a.In
 		}
-	}
-	return m
-}
-
-// Twin is a copy of a machine that has spare capacity in each slice, with what is
-// not in the machine.
-func Twin(m api.Machine) api.Machine {
-	n := m
-	n.States = append(slices.Clone(m.States), api.State{Final: "spare"}, api.State{Final: "spare"})[:len(m.States)]
-	for i, s := range m.States {
-		n.States[i].Arcs = append(slices.Clone(s.Arcs), api.Arc{In: 77}, api.Arc{In: 77})[:len(s.Arcs)]
-	}
-	return n
-}
-
-// Whole is a machine with the spare capacity of its slices.
-func Whole(m api.Machine) api.Machine {
-	m.States = slices.Clone(m.States[:cap(m.States)])
-	for i, s := range m.States {
-		m.States[i].Arcs = s.Arcs[:cap(s.Arcs)]
 	}
 	return m
 }
@@ -155,4 +186,13 @@ func Broken(m api.Machine) []api.Machine {
 		l = append(l, n)
 	}
 	return l
+}
+
+// Arcs is the number of all arcs of a machine.
+func Arcs(m api.Machine) int {
+	n := 0
+	for _, s := range m.States {
+		n += len(s.Arcs)
+	}
+	return n
 }
