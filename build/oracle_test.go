@@ -7,12 +7,7 @@ import (
 
 // unit gives the pair of empty words One, and all others Zero.
 func unit(kind int) samples.Relation {
-	r := samples.Relation{}
-	for _, x := range samples.Words(2) {
-		for _, y := range samples.Words(2) {
-			r[[2]string{samples.Text(x), samples.Text(y)}] = semi.Zero(kind)
-		}
-	}
+	r := samples.Zeros(kind)
 	r[[2]string{}] = semi.One(kind)
 	return r
 }

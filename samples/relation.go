@@ -2,12 +2,25 @@ package samples
 
 import (
 	"abugida/api"
+	"abugida/semi"
 	"abugida/weigh"
 )
 
 // Relation has the values of some pairs of words, which are written with a byte
 // for each symbol.
 type Relation map[[2]string]string
+
+// Zeros gives Zero to the pairs of words of at most two symbols from 1 to 2.
+func Zeros(kind int) Relation {
+	r := Relation{}
+	l := Words(2)
+	for _, x := range l {
+		for _, y := range l {
+			r[[2]string{Text(x), Text(y)}] = semi.Zero(kind)
+		}
+	}
+	return r
+}
 
 // RelationOf returns the values that a machine gives the pairs of words of at most
 // two symbols from 1 to 2.

@@ -21,12 +21,7 @@ func isFinite(m api.Machine) bool {
 // byPaths adds up the weights of all paths of a machine without cycles, for pairs of
 // words of at most two symbols that are made of what the paths spell.
 func byPaths(m api.Machine, words func(p samples.Path) (x, y []int)) samples.Relation {
-	r := samples.Relation{}
-	for _, x := range samples.Words(2) {
-		for _, y := range samples.Words(2) {
-			r[[2]string{samples.Text(x), samples.Text(y)}] = semi.Zero(m.Kind)
-		}
-	}
+	r := samples.Zeros(m.Kind)
 	for _, p := range samples.Paths(m, len(m.States)) {
 		x, y := words(p)
 		key := [2]string{samples.Text(x), samples.Text(y)}

@@ -30,10 +30,7 @@ func TestRename(t *testing.T) {
 	for _, kind := range kinds {
 		eachMachine(kind, 250, func(a api.Machine) {
 			l := renaming(r, 1)
-			before, want := relation(t, a), samples.Relation{}
-			for words := range before {
-				want[words] = semi.Zero(kind)
-			}
+			before, want := relation(t, a), samples.Zeros(kind)
 			for _, u := range samples.Words(2) {
 				for _, v := range samples.Words(2) {
 					key := [2]string{samples.Text(image(l, u)), samples.Text(image(l, v))}
